@@ -1,0 +1,1 @@
+"""Letters that follow people by forwarding orders."""

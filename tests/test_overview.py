@@ -1,0 +1,105 @@
+"""What the overview says of all functions (point 1), and the interface."""
+
+import ast
+import inspect
+import pathlib
+import unittest
+
+import chasepost
+import naive
+from chasepost import chases
+from chasepost.chases import count_hops, day_sets, destination, loops, slowest, where
+from chasepost.errors import PostError
+from chasepost.nets import Net
+
+FUNCTIONS = {
+    "destination": ["net", "house", "day"],
+    "day_sets": ["net", "house"],
+    "slowest": ["net"],
+    "where": ["net", "house", "day", "later"],
+    "count_hops": ["net", "house", "day", "later"],
+    "loops": ["net"],
+}
+METHODS = {
+    "__init__": ["self", "period", "houses", "orders"],
+    "order_at": ["self", "house", "day"],
+    "route": ["self", "house", "day", "limit"],
+}
+
+
+def parameters(function):
+    return list(inspect.signature(function).parameters)
+
+
+def all_results(net):
+    """Return what all functions return for a net."""
+    found = [net.period, net.houses, net.orders, net.idle_orders, net.text, slowest(net), loops(net)]
+    for house in range(net.houses):
+        found.append(day_sets(net, house))
+        for day in range(net.period):
+            found.append([net.order_at(house, day), list(net.route(house, day, 5)), destination(net, house, day)])
+            found.append([where(net, house, day, 9), count_hops(net, house, day, 9)])
+    return found
+
+
+class Interface(unittest.TestCase):
+    def test_functions(self):
+        for name, names in FUNCTIONS.items():
+            function = getattr(chases, name)
+            self.assertEqual((parameters(function), function.__module__), (names, "chasepost.chases"))
+
+    def test_methods_and_properties(self):
+        self.assertEqual(Net.__module__, "chasepost.nets")
+        for name, names in METHODS.items():
+            self.assertEqual(parameters(vars(Net)[name]), names)
+        self.assertIsInstance(vars(Net)["parse"], classmethod)
+        self.assertEqual(parameters(Net.parse), ["text"])
+        for name in ("text", "idle_orders"):
+            self.assertIsInstance(vars(Net)[name], property)
+
+    def test_arguments_by_name(self):
+        net = naive.example()
+        self.assertEqual(list(net.route(house=0, day=1, limit=1)), [(0, 1)])
+        self.assertEqual(net.order_at(house=0, day=1), 0)
+        self.assertEqual(Net.parse(text="net 1 1").period, 1)
+        self.assertEqual(where(net=net, house=0, day=1, later=4), ("house", 0))
+        self.assertEqual(count_hops(net=net, house=0, day=1, later=4), 3)
+        self.assertEqual(destination(net=net, house=0, day=1), (0, 7))
+
+
+class Overview(unittest.TestCase):
+    def test_repeated_calls_return_the_same(self):
+        for net in naive.random_nets(30):
+            first = all_results(net)
+            self.assertEqual(all_results(net), first)
+            self.assertEqual(all_results(Net(net.period, net.houses, net.orders)), first)
+
+    def test_calls_that_fail_change_nothing(self):
+        net = naive.example()
+        before = all_results(net)
+        for house, day in ((3, 0), (-1, 0), (0, -1), (None, None), (0, "x")):
+            for function in (destination, lambda net, house, day: next(net.route(house, day, 1))):
+                with self.assertRaises(PostError):
+                    function(net, house, day)
+            with self.assertRaises(PostError):
+                where(net, house, day, 0)
+        self.assertEqual(all_results(net), before)
+
+    def test_two_routes_at_once(self):
+        net = naive.example()
+        pairs = list(zip(net.route(0, 1, 3), net.route(1, 2, 3)))
+        self.assertEqual(pairs, [((0, 1), (1, 2)), ((1, 2), (0, 4)), ((0, 4), (1, 5))])
+
+    def test_arguments_are_not_modified(self):
+        orders = [[0, 1, 0, 1, 1]]
+        for wrong in (orders, (orders[0],)):
+            with self.assertRaises(PostError):
+                Net(2, 2, wrong)
+        self.assertEqual(orders, [[0, 1, 0, 1, 1]])
+
+    def test_nothing_outside_the_package_is_imported(self):
+        for path in pathlib.Path(chasepost.__file__).parent.glob("*.py"):
+            for node in ast.walk(ast.parse(path.read_text())):
+                self.assertNotIsInstance(node, ast.Import)
+                if isinstance(node, ast.ImportFrom):
+                    self.assertTrue(node.module.startswith("chasepost."), path)
