@@ -8,7 +8,7 @@ from chasepost.errors import InvalidDay, UnknownHouse
 from chasepost.nets import Net
 
 LAST = naive.LAST_DAY
-# A letter from house 0 is forwarded on its first two days, waits nowhere, and circles between houses 1, 2 and 3.
+# A letter from house 0 comes to house 1 after three days, and then circles for ever through houses 1, 2 and 3.
 TAIL = (5, 4, ((0, 1, 0, 5, 3), (1, 2, 0, 5, 4), (2, 3, 0, 5, 2), (3, 1, 0, 5, 9)))
 
 
@@ -25,7 +25,7 @@ class Destination(unittest.TestCase):
         self.assertEqual(destination(Net(1, 1, ()), 0, 5), (0, 5))
 
     def test_the_whole_way_through_many_stops(self):
-        # On each day but the last, letters move on by one day, so that one passes all houses and days.
+        # Letters go round through all ten houses; the only end is house 9 on the last day of the period.
         orders = tuple((house, (house + 1) % 10, 0, 30, 9) for house in range(9))
         orders += ((9, 0, 0, 29, 9),)
         net = Net(30, 10, orders)
