@@ -87,6 +87,37 @@ def day_stops(net, stops):
     return [(house, day % net.period) for house, day in stops]
 
 
+def find_ways(net):
+    """Return a dict: (goal, days) of the letter posted at each (house, day of the period), or None if it chases.
+
+    The letter is delivered at the goal so many days after its posting.
+    """
+    ways = {}
+    for house, day in letters(net):
+        add_ways(net, house, day, ways)
+    return ways
+
+
+def add_ways(net, house, day, ways):
+    """Add the way of a letter, and the ways of all letters on its trail, to those that are known."""
+    trail = []
+    stop = (house, day)
+    while stop is not None and (stop[0], stop[1] % net.period) not in ways:
+        # A letter that comes back to its own trail meets this None there, and keeps it: it chases.
+        ways[(stop[0], stop[1] % net.period)] = None
+        trail.append(stop)
+        stop = net.stop_after(stop[0], stop[1])
+    if stop is None:
+        goal, arrival = trail[-1]
+    else:
+        known = ways[(stop[0], stop[1] % net.period)]
+        if known is None:
+            return
+        goal, arrival = known[0], stop[1] + known[1]
+    for source, start in trail:
+        ways[(source, start % net.period)] = (goal, arrival - start)
+
+
 def follow(net, house, day):
     """Return the stops of a letter up to its end, and the index of the stop to which it comes back there, or None.
 

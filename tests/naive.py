@@ -111,3 +111,24 @@ def diary(net, house, day, last):
         else:
             entries.append((("delivered", source), hops))
     return entries
+
+
+def count_chasing(net):
+    return [chases(net, house, day) for house in range(net.houses) for day in range(net.period)].count(True)
+
+
+def change_days(net, added):
+    """Return a net whose orders hold so many more days, or None if one would hold on more days than the period has."""
+    days = [order[3] + more for order, more in zip(net.orders, added)]
+    if [many for many in days if many > net.period]:
+        return None
+    return Net(net.period, net.houses, tuple(
+        order[:3] + (many, order[4]) for order, many in zip(net.orders, days)
+    ))
+
+
+def letters(net, last):
+    """Return a list (house, day, result) of all letters that are posted on days up to the last one."""
+    return [
+        (house, day, destination(net, house, day)) for house in range(net.houses) for day in range(last + 1)
+    ]

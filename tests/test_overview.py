@@ -7,18 +7,36 @@ import unittest
 
 import chasepost
 import naive
-from chasepost import chases
+from chasepost import chases, comparison, planning, posting
 from chasepost.chases import count_hops, day_sets, destination, loops, slowest, where
+from chasepost.comparison import first_difference, simplify
 from chasepost.errors import PostError
 from chasepost.nets import Net
+from chasepost.planning import harmful_orders, plan_days
+from chasepost.posting import count_deliveries, last_posting, senders
 
 FUNCTIONS = {
-    "destination": ["net", "house", "day"],
-    "day_sets": ["net", "house"],
-    "slowest": ["net"],
-    "where": ["net", "house", "day", "later"],
-    "count_hops": ["net", "house", "day", "later"],
-    "loops": ["net"],
+    chases: {
+        "destination": ["net", "house", "day"],
+        "day_sets": ["net", "house"],
+        "slowest": ["net"],
+        "where": ["net", "house", "day", "later"],
+        "count_hops": ["net", "house", "day", "later"],
+        "loops": ["net"],
+    },
+    posting: {
+        "last_posting": ["net", "house", "goal", "day"],
+        "senders": ["net", "goal", "day"],
+        "count_deliveries": ["net", "house", "goal", "first", "last"],
+    },
+    planning: {
+        "plan_days": ["net", "limit"],
+        "harmful_orders": ["net"],
+    },
+    comparison: {
+        "first_difference": ["net", "other"],
+        "simplify": ["net"],
+    },
 }
 METHODS = {
     "__init__": ["self", "period", "houses", "orders"],
@@ -34,8 +52,10 @@ def parameters(function):
 def all_results(net):
     """Return what all functions return for a net."""
     found = [net.period, net.houses, net.orders, net.idle_orders, net.text, slowest(net), loops(net)]
+    found += [plan_days(net, 1), harmful_orders(net), first_difference(net, naive.circle()), simplify(net).orders]
     for house in range(net.houses):
         found.append(day_sets(net, house))
+        found += [last_posting(net, house, 0, 50), senders(net, house, 50), count_deliveries(net, house, 0, 1, 50)]
         for day in range(net.period):
             found.append([net.order_at(house, day), list(net.route(house, day, 5)), destination(net, house, day)])
             found.append([where(net, house, day, 9), count_hops(net, house, day, 9)])
@@ -44,9 +64,10 @@ def all_results(net):
 
 class Interface(unittest.TestCase):
     def test_functions(self):
-        for name, names in FUNCTIONS.items():
-            function = getattr(chases, name)
-            self.assertEqual((parameters(function), function.__module__), (names, "chasepost.chases"))
+        for module, functions in FUNCTIONS.items():
+            for name, names in functions.items():
+                function = getattr(module, name)
+                self.assertEqual((parameters(function), function.__module__), (names, module.__name__))
 
     def test_methods_and_properties(self):
         self.assertEqual(Net.__module__, "chasepost.nets")
@@ -65,6 +86,11 @@ class Interface(unittest.TestCase):
         self.assertEqual(where(net=net, house=0, day=1, later=4), ("house", 0))
         self.assertEqual(count_hops(net=net, house=0, day=1, later=4), 3)
         self.assertEqual(destination(net=net, house=0, day=1), (0, 7))
+        self.assertEqual(last_posting(net=net, house=1, goal=2, day=10), 4)
+        self.assertEqual(senders(net=net, goal=2, day=3), [(1, 0), (2, 3)])
+        self.assertEqual(count_deliveries(net=net, house=1, goal=2, first=0, last=9), 3)
+        self.assertEqual(plan_days(net=net, limit=0), ())
+        self.assertIsNone(first_difference(net=net, other=simplify(net=net)))
 
 
 class Overview(unittest.TestCase):
@@ -83,6 +109,15 @@ class Overview(unittest.TestCase):
                     function(net, house, day)
             with self.assertRaises(PostError):
                 where(net, house, day, 0)
+            for function in (senders, lambda net, house, day: last_posting(net, 0, house, day)):
+                with self.assertRaises(PostError):
+                    function(net, house, day)
+            with self.assertRaises(PostError):
+                count_deliveries(net, 0, house, day, 9)
+        with self.assertRaises(PostError):
+            plan_days(net, 4)
+        with self.assertRaises(PostError):
+            first_difference(Net(17, 3, ()), Net(30, 3, ()))
         self.assertEqual(all_results(net), before)
 
     def test_two_routes_at_once(self):
