@@ -118,6 +118,14 @@ def add_ways(net, house, day, ways):
         ways[(source, start % net.period)] = (goal, arrival - start)
 
 
+def result_on(day, way):
+    """Return the result of a letter that is posted on a day and has this way, or None if it chases for ever."""
+    if way is None:
+        return None
+    goal, days = way
+    return goal, day + days
+
+
 def follow(net, house, day):
     """Return the stops of a letter up to its end, and the index of the stop to which it comes back there, or None.
 

@@ -1,14 +1,19 @@
 """Checks of values, and the reading of lines, that several files share."""
 
-from chasepost.errors import InvalidDay, UnknownHouse
+from chasepost.errors import InvalidDay, UnknownHouse, UnknownOrder
 
 LAST_DAY = 10 ** 18
 MOST_DIGITS = 3
 
 
+def is_integer(value):
+    """Tell whether a value is an integer; True and False are not integers here."""
+    return isinstance(value, int) and not isinstance(value, bool)
+
+
 def is_within(value, low, high):
-    """Tell whether a value is an integer from low to high; True and False are not integers here."""
-    return isinstance(value, int) and not isinstance(value, bool) and low <= value <= high
+    """Tell whether a value is an integer from low to high."""
+    return is_integer(value) and low <= value <= high
 
 
 def check_house(net, house):
@@ -21,6 +26,12 @@ def check_day(day):
     """Raise InvalidDay if the value is not a day that may be passed."""
     if not is_within(day, 0, LAST_DAY):
         raise InvalidDay("a day is an integer from 0 to 10 ** 18")
+
+
+def check_index(orders, index):
+    """Raise UnknownOrder if there is no order of this number."""
+    if not is_within(index, 0, len(orders) - 1):
+        raise UnknownOrder("there is no order of this number")
 
 
 def check_letter(net, house, day):

@@ -1,6 +1,6 @@
 """Comparing and simplifying nets."""
 
-from chasepost.chases import find_ways
+from chasepost.chases import find_ways, result_on
 from chasepost.errors import TooLong
 from chasepost.nets import Net
 
@@ -40,14 +40,6 @@ def common_multiple(period, other_period):
     while multiple % other_period != 0:
         multiple += period
     return multiple
-
-
-def result_on(day, way):
-    """Return the result of a letter that is posted on a day and has this way, or None if it chases for ever."""
-    if way is None:
-        return None
-    goal, days = way
-    return goal, day + days
 
 
 def followed_offsets(net, index):

@@ -90,6 +90,16 @@ def check_orders(period, houses, orders):
             raise InvalidNet("orders", index)
 
 
+def with_order(orders, index, order):
+    """Return the orders with another one in place of the one at the index."""
+    return orders[:index] + (order,) + orders[index + 1:]
+
+
+def without_order(orders, index):
+    """Return the orders without the one at the index."""
+    return orders[:index] + orders[index + 1:]
+
+
 def find_followed(period, houses, orders):
     """Return a list with a list for each house: the number of the order followed on each day of the period, or None."""
     followed = [[None] * period for house in range(houses)]

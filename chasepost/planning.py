@@ -3,7 +3,7 @@
 from chasepost.chases import find_ways
 from chasepost.checks import is_within
 from chasepost.errors import InvalidLimit
-from chasepost.nets import Net
+from chasepost.nets import Net, without_order
 
 HIGHEST_LIMIT = 3
 
@@ -53,4 +53,4 @@ def prolonged(net, plan):
 
 def without(net, index):
     """Return a net that lacks one order."""
-    return Net(net.period, net.houses, net.orders[:index] + net.orders[index + 1:])
+    return Net(net.period, net.houses, without_order(net.orders, index))
